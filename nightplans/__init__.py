@@ -1,0 +1,1 @@
+"""Plans of observations for a night, computed with whole numbers alone."""

@@ -1,0 +1,44 @@
+"""The calls of one session, handed in and answered as one list of numbers."""
+
+from nightplans.session import Session
+
+LOAD = 0
+NIGHT = 1
+OBSERVE = 2
+CLOSE = 3
+
+# By the number of a call: how many whole numbers it has, ahead of its row if it has one.
+NUMBERS = {0: 0, 1: 6, 2: 5, 3: 2, 4: 1}
+
+
+def answers(calls):
+    """For each call in order: how many numbers it answers, then these."""
+    session = Session()
+    answered = []
+    begin = 0
+    while begin < len(calls):
+        end = end_of_call(calls, begin)
+        answer = answer_of(session, calls[begin:end])
+        answered.append(len(answer))
+        answered.extend(answer)
+        begin = end
+    return answered
+
+
+def end_of_call(calls, begin):
+    end = begin + 1 + NUMBERS[calls[begin]]
+    if calls[begin] == LOAD:
+        end += 1 + calls[end]
+    return end
+
+
+def answer_of(session, call):
+    if call[0] == LOAD:
+        return session.load(call[2:])
+    if call[0] == NIGHT:
+        return session.night(call[1], call[2], call[3], call[4], call[5], call[6])
+    if call[0] == OBSERVE:
+        return session.observe(call[1], call[2], call[3], call[4], call[5])
+    if call[0] == CLOSE:
+        return session.close(call[1], call[2])
+    return session.starts(call[1])
