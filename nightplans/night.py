@@ -1,6 +1,6 @@
-"""A night: its observations, its closed times, and when a star is high enough."""
+"""A night: its observations, its closed times, when a star is high enough, and the slews between stars."""
 
-from nightplans.sky import altitude, place
+from nightplans.sky import altitude, place, separation
 
 
 class Observation:
@@ -27,13 +27,14 @@ class Night:
         self.speed = speed
         self.observations = []
         self.closed = []
-        self.known = {}
+        self.known_high = {}
+        self.known_slews = {}
 
     def is_high(self, star, minute):
         # Many beginnings ask for the same minutes, and an altitude takes long.
-        if (star, minute) not in self.known:
-            self.known[(star, minute)] = self.altitude_at(star, minute) >= self.least_altitude
-        return self.known[(star, minute)]
+        if (star, minute) not in self.known_high:
+            self.known_high[(star, minute)] = self.altitude_at(star, minute) >= self.least_altitude
+        return self.known_high[(star, minute)]
 
     def altitude_at(self, star, minute):
         moment = self.moment + 60 * minute
@@ -61,6 +62,20 @@ class Night:
     def beginnings(self, observation):
         """All minutes at which an observation can begin, in ascending order."""
         return [minute for minute in range(self.minutes + 1) if self.can_begin(observation, minute)]
+
+    def slew(self, one, other):
+        """The minutes that the telescope needs between two stars, given by their numbers."""
+        # The search for a plan asks for the same few slews again and again.
+        if (one, other) not in self.known_slews:
+            self.known_slews[(one, other)] = rounded_up(self.separation_of(one, other), 60 * self.speed)
+        return self.known_slews[(one, other)]
+
+    def separation_of(self, one, other):
+        return separation(place(self.stars[one], self.moment), place(self.stars[other], self.moment))
+
+
+def rounded_up(number, divisor):
+    return -(-number // divisor)
 
 
 def ranges_of(minutes):

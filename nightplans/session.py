@@ -3,13 +3,16 @@
 from nightplans.angles import HALF_TURN, QUARTER
 from nightplans.catalogue import LINE_FEED, TextError, read_catalogue
 from nightplans.night import Night, Observation, ranges_of
+from nightplans.plans import Plans, first_mistake, members, value_of
 
 # Codes of errors; each is answered with a minus.
 BAD_TEXT = 1
 OUT_OF_RANGE = 2
 NOT_THERE = 3
+NO_PLAN = 4
 NO_NIGHT = 5
 TOO_MANY = 6
+MISTAKE = 7
 ERROR_IN_TEXT = 10
 
 MOST_BYTES = 6000
@@ -83,6 +86,60 @@ class Session:
         for first, last in ranges:
             answer.extend([first, last])
         return answer
+
+    def slew(self, i, j):
+        if self.tonight is None:
+            return [-NO_NIGHT]
+        observations = self.tonight.observations
+        if max(i, j) >= len(observations):
+            return [-NOT_THERE]
+        return [self.tonight.slew(observations[i].star, observations[j].star)]
+
+    def plan(self):
+        if self.tonight is None:
+            return [-NO_NIGHT]
+        return plan_answer(self.tonight, Plans(self.tonight, 0, None).best(lambda chosen: True))
+
+    def check(self, numbers):
+        if self.tonight is None:
+            return [-NO_NIGHT]
+        if len(numbers) % 2 == 1:
+            return [-OUT_OF_RANGE]
+        entries = list(zip(numbers[0::2], numbers[1::2]))
+        found = first_mistake(self.tonight, entries)
+        if found is not None:
+            return [-MISTAKE, found[0], found[1]]
+        return [value_of(self.tonight, numbers[0::2])]
+
+    def plan_with(self, number):
+        if self.tonight is None:
+            return [-NO_NIGHT]
+        if number >= len(self.tonight.observations):
+            return [-NOT_THERE]
+        entries = Plans(self.tonight, 0, None).best(lambda chosen: number in members(chosen))
+        if entries is None:
+            return [-NO_PLAN]
+        return plan_answer(self.tonight, entries)
+
+    def rest(self, minute, at, done):
+        if self.tonight is None:
+            return [-NO_NIGHT]
+        observations = self.tonight.observations
+        if at > len(observations) or any([number >= len(observations) for number in done]):
+            return [-NOT_THERE]
+        star = None
+        if at > 0:
+            star = observations[at - 1].star
+        plans = Plans(self.tonight, minute, star)
+        entries = plans.best(lambda chosen: not any([number in done for number in members(chosen)]))
+        return plan_answer(self.tonight, entries)
+
+
+def plan_answer(night, entries):
+    answer = [value_of(night, [number for number, minute in entries]), len(entries)]
+    for number, minute in entries:
+        answer.extend([number, minute])
+    return answer
 
 
 def is_allowed(code):

@@ -1,6 +1,6 @@
-"""Where a star stands at a moment: its place, and its altitude at a site."""
+"""Where a star stands at a moment: its place, its altitude at a site, and how far apart two places are."""
 
-from nightplans.angles import ONE, TURN, arcsin, cosine, sine
+from nightplans.angles import ONE, TURN, arcsin, cosine, halve, sine
 
 YEAR = 31557600
 CENTURY = 3155760000
@@ -42,3 +42,10 @@ def place(star, moment):
 def altitude(vector, moment, site_longitude, site_latitude):
     x, y, z = turned_z(vector, -(sidereal_time(moment) + site_longitude))
     return arcsin((x * cosine(site_latitude) + z * sine(site_latitude)) // ONE)
+
+
+def separation(one, other):
+    square = sum([(a - b) * (a - b) for a, b in zip(one, other)])
+    # No two vectors are as far as four units from one another.
+    distance = halve(lambda tried: tried * tried <= square, 0, 4 * ONE)
+    return 2 * arcsin(min(ONE, distance // 2))

@@ -1,8 +1,9 @@
 import unittest
 
 from calls import last_result, load, night, observe, starts
+from nightplans.angles import ONE
 from nightplans.catalogue import read_catalogue
-from nightplans.sky import altitude, place, sidereal_time
+from nightplans.sky import altitude, place, separation, sidereal_time
 
 SIRIUS = "sirius 06:45:08.917 -16:42:58.017 -1.46 -546 -1223"
 BARNARD = "barnard 17:57:48.498 +04:41:36.207 9.51 -798 10328"
@@ -58,6 +59,15 @@ ALTITUDES = [
     (FAST, -10000000000, -648000000, -324000000, -25449159, -25449159),
 ]
 
+# two stars, the separations of their places at the moments 0, 849052800 and -10000000000
+SEPARATIONS = [
+    (SIRIUS, BARNARD, (587844956, 588019884, 585750636)),
+    (SIRIUS, NORTH, (384178016, 384210920, 383790470)),
+    (NORTH, SOUTH, (648000000, 648000000, 648000000)),
+    (FAST, SOUTH, (323999998, 321309538, 355687768)),
+    (FAST, BARNARD, (325965900, 328891624, 292345958)),
+]
+
 
 def star(line):
     return read_catalogue(list(line.encode("ascii")))[0]
@@ -91,6 +101,28 @@ class Sky(unittest.TestCase):
                 with self.subTest(line=line, moment=then):
                     vector = place(star(line), then)
                     self.assertEqual(altitude(vector, then, longitude, latitude), expected)
+
+    def test_separation(self):
+        for one, other, expected in SEPARATIONS:
+            for moment, angle in zip((0, 849052800, -10000000000), expected):
+                with self.subTest(one=one, other=other, moment=moment):
+                    places = (place(star(one), moment), place(star(other), moment))
+                    self.assertEqual(separation(*places), angle)
+                    self.assertEqual(separation(*reversed(places)), angle)
+                    self.assertEqual(separation(places[0], places[0]), 0)
+
+    def test_separation_is_rounded_down_within(self):
+        # The sine of 1 is 4848136811; the second sine below ONE is ONE - 11, that of 323999999.
+        almost = 2 * (ONE - 11)
+        for vector, angle in (
+            ((0, 0, 0), 0), ((9696273622, 0, 0), 2), ((-9696273622, 0, 0), 2), ((9696273621, 0, 0), 0),
+            ((0, 9696273621, 139257), 0), ((0, 9696273621, -139258), 2),
+            ((0, 0, almost - 1), 647999996), ((0, 0, almost), 647999998), ((almost - 1, 10 ** 9, 0), 647999996),
+            ((2 * ONE, 0, 0), 648000000), ((0, -2 * ONE - 8, 0), 648000000), ((2 * ONE, 2 * ONE, 2 * ONE), 648000000),
+        ):
+            with self.subTest(vector=vector):
+                self.assertEqual(separation((0, 0, 0), vector), angle)
+                self.assertEqual(separation(vector, (0, 0, 0)), angle)
 
     def test_a_star_is_high_enough_at_its_least_altitude_and_not_above(self):
         for line, moment, longitude, latitude, now, later in ALTITUDES:
