@@ -11,7 +11,6 @@ SLEW = 5
 PLAN = 6
 CHECK = 7
 WITH = 8
-REST = 9
 
 # By the number of a call: how many whole numbers it has, ahead of its row if it has one.
 NUMBERS = {0: 0, 1: 6, 2: 5, 3: 2, 4: 1, 5: 2, 6: 0, 7: 0, 8: 1, 9: 2}
